@@ -1,0 +1,1 @@
+"""A word game on a board: tilewords.game.answers(calls) is the way in."""
