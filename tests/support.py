@@ -75,9 +75,29 @@ def swap(tiles):
     return [6] + counted(numbers(tiles))
 
 
+def pass_turn():
+    return [7]
+
+
+def now():
+    return [8]
+
+
+def hand(player):
+    return [9, player]
+
+
+def board():
+    return [10]
+
+
+def count(row, column, down, tiles):
+    return [11, row, column, down] + counted(numbers(tiles))
+
+
 def start(*hands, **kind):
     """A game in which these players have drawn these first hands."""
-    return [begin(players=len(hands), **kind)] + [draw(hand) for hand in hands]
+    return [begin(players=len(hands), **kind)] + [draw(tiles) for tiles in hands]
 
 
 def run(calls):

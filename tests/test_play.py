@@ -141,6 +141,14 @@ class Laying(unittest.TestCase):
         self.assertEqual(last(calls, play(1, 4, 1, "A")), [-6])
         self.assertEqual(last(calls, play(0, 4, 1, "AB")), [-6])
 
+    def test_the_last_row_is_no_neighbour_of_the_first(self):
+        calls = GAME + [play(2, 2, 1, "CAT"), draw("XYZ")]
+        self.assertEqual(last(calls, play(0, 2, 0, "AB")), [-6])
+        self.assertEqual(last(calls, play(1, 2, 0, "AB"))[0], 1 + 2 + 1 + 24)
+        calls = GAME + [play(0, 2, 1, "CAT"), draw("XYZ")]
+        self.assertEqual(last(calls, play(4, 2, 0, "AB")), [-6])
+        self.assertEqual(last(calls, play(3, 2, 0, "AB"))[0], 1 + 2 + 1 + 24)
+
     def test_with_and_without_a_neighbour(self):
         for row, column in ((1, 1), (1, 3), (3, 1), (3, 3), (2, 0), (2, 4)):
             self.assertNotEqual(last(BEHIND_CAT, play(row, column, 0, "A")), [-6])

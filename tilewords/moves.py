@@ -1,6 +1,7 @@
-"""The calls on a game. Each answers a list of numbers; a refusal is its number below 0 alone, and changes nothing.
+"""The calls that move a game on. Each answers a list of numbers; a refusal is its number below 0 alone.
 
-The refusals of a call are asked in the order in which they are told, for the first that applies is the answer.
+The refusals of a call are asked in the order in which they are told, for the first that applies is the answer, and
+ahead of every change, for behind a refusal all is as it was.
 """
 
 from tilewords.board import LETTERS, board_with, face_of, letters_on, squares_for, tile_of, words_of, worth_of_play
@@ -169,3 +170,10 @@ def swap(game, tiles):
     game.phase = DRAWING
     game.due = len(tiles)
     return [len(tiles)] + standing(game)
+
+
+def pass_turn(game):
+    if game.phase != PLAYING:
+        return [-3]
+    end_turn(game, 0)
+    return [0] + standing(game)
